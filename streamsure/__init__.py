@@ -1,0 +1,1 @@
+"""Queries over event streams that come late, doubled and in any order."""

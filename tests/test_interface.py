@@ -1,0 +1,85 @@
+"""The interface of DOC.md: each name is defined in its file, each method in its class."""
+
+import ast
+import inspect
+import pathlib
+import unittest
+
+import streamsure
+from streamsure import errors, queries, sets
+
+PACKAGE = pathlib.Path(streamsure.__file__).parent
+
+FUNCTIONS = {
+    "sets": {
+        "normal": ["pairs"], "union": ["one", "other"], "meet": ["one", "other"],
+        "others": ["one"], "has": ["one", "number"], "least": ["one"], "greatest": ["one"],
+        "how_many": ["one"], "some_member": ["one"], "member_but": ["one", "seen"],
+    },
+    "queries": {},
+    "errors": {},
+}
+CLASSES = {
+    "sets": {},
+    "queries": {
+        "Kinds": (["fields"], {"is_event": ["self", "thing"]}),
+        "Side": (["kinds", "kind", "where"], {"form": ["self"]}),
+        "Each": (["side", "told"], {"form": ["self"], "is_empty": ["self"]}),
+        "Windows": (["side", "by", "length", "step", "worths"],
+                    {"form": ["self"], "is_empty": ["self"]}),
+        "Blocks": (["side", "by", "size", "worths"], {"form": ["self"], "is_empty": ["self"]}),
+        "Sessions": (["side", "by", "gap", "worths"], {"form": ["self"], "is_empty": ["self"]}),
+        "Pairs": (["first", "second", "by", "mode", "reach", "told"],
+                  {"form": ["self"], "is_empty": ["self"]}),
+        "Lonely": (["first", "second", "by", "reach", "told"],
+                   {"form": ["self"], "is_empty": ["self"]}),
+    },
+    "errors": {
+        "StreamError": (None, {}), "BadQuery": (["word"], {}), "BadLetter": (["number"], {}),
+        "TooMany": (["most"], {}), "NotFinite": ([], {}), "BadText": (["line", "word"], {}),
+    },
+}
+MODULES = {"sets": sets, "queries": queries, "errors": errors}
+
+
+def defined(name, kind):
+    tree = ast.parse((PACKAGE / f"{name}.py").read_text(encoding="utf-8"))
+    return [node.name for node in tree.body if isinstance(node, kind)]
+
+
+class InterfaceTest(unittest.TestCase):
+    def test_functions_are_defined_in_their_files(self):
+        for name, functions in FUNCTIONS.items():
+            here = defined(name, ast.FunctionDef)
+            for function, told in functions.items():
+                self.assertIn(function, here)
+                found = inspect.signature(getattr(MODULES[name], function)).parameters
+                self.assertEqual(list(found), told, function)
+
+    def test_classes_are_defined_in_their_files(self):
+        for name, classes in CLASSES.items():
+            here = defined(name, ast.ClassDef)
+            for class_name, (told, methods) in classes.items():
+                self.assertIn(class_name, here)
+                made = getattr(MODULES[name], class_name)
+                if told is not None:
+                    found = inspect.signature(made).parameters
+                    self.assertEqual(list(found), told, class_name)
+                for method, parameters in methods.items():
+                    self.assertIn(method, vars(made), class_name)
+                    found = inspect.signature(vars(made)[method]).parameters
+                    self.assertEqual(list(found), parameters, (class_name, method))
+
+    def test_constants_are_defined_in_their_file(self):
+        tree = ast.parse((PACKAGE / "sets.py").read_text(encoding="utf-8"))
+        names = [node.targets[0].id for node in tree.body if isinstance(node, ast.Assign)]
+        self.assertIn("EVERYTHING", names)
+        self.assertIn("NOTHING", names)
+
+    def test_a_side_has_both_methods_of_its_own(self):
+        self.assertIn("form", vars(queries.Side))
+        self.assertIn("is_empty", vars(queries.Side))
+
+
+if __name__ == "__main__":
+    unittest.main()
