@@ -6,7 +6,7 @@ import pathlib
 import unittest
 
 import streamsure
-from streamsure import errors, queries, sets
+from streamsure import apart, errors, machines, meaning, queries, sets, waiting
 
 PACKAGE = pathlib.Path(streamsure.__file__).parent
 
@@ -16,8 +16,16 @@ FUNCTIONS = {
         "others": ["one"], "has": ["one", "number"], "least": ["one"], "greatest": ["one"],
         "how_many": ["one"], "some_member": ["one"], "member_but": ["one", "seen"],
     },
-    "queries": {},
-    "errors": {},
+    "meaning": {"stream_of": ["letters"], "meaning": ["query", "events"]},
+    "machines": {
+        "start": ["query"], "step": ["query", "state", "letter"], "run": ["query", "letters"],
+        "told_by": ["query", "letters"], "is_seen": ["query", "event"],
+    },
+    "waiting": {
+        "taken_back": ["query", "events", "mark", "answer"],
+        "waiting_for": ["query", "events", "mark"],
+    },
+    "apart": {"told_apart": ["query", "one", "other"]},
 }
 CLASSES = {
     "sets": {},
@@ -39,7 +47,10 @@ CLASSES = {
         "TooMany": (["most"], {}), "NotFinite": ([], {}), "BadText": (["line", "word"], {}),
     },
 }
-MODULES = {"sets": sets, "queries": queries, "errors": errors}
+MODULES = {
+    "apart": apart, "errors": errors, "machines": machines, "meaning": meaning, "queries": queries,
+    "sets": sets, "waiting": waiting,
+}
 
 
 def defined(name, kind):

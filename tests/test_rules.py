@@ -10,6 +10,8 @@ import warnings
 import streamsure
 
 PACKAGE = pathlib.Path(streamsure.__file__).parent
+# a shell or a doctest leaves the last value there as _
+PYTHONS_NAMES = set(dir(builtins)) - {"_"}
 LIBRARY = {
     "heapq": {"heappush", "heappop", "heapify", "heapreplace", "heappushpop"},
     "math": {"gcd", "lcm", "isqrt", "comb", "perm", "factorial"},
@@ -182,7 +184,7 @@ class NamesTest(unittest.TestCase):
 
     def test_no_name_hides_another_one(self):
         for path, tree in trees().items():
-            barred = set(dir(builtins))
+            barred = set(PYTHONS_NAMES)
             for node in tree.body:
                 if isinstance(node, ast.ClassDef):
                     barred.add(node.name)
@@ -191,7 +193,7 @@ class NamesTest(unittest.TestCase):
             for node in ast.walk(tree):
                 if isinstance(node, (ast.FunctionDef, ast.Lambda)):
                     self.assertEqual(set(bound(node)) & barred, set(), path)
-            self.assertEqual(set(top_names(tree)) & set(dir(builtins)), set(), path)
+            self.assertEqual(set(top_names(tree)) & PYTHONS_NAMES, set(), path)
 
     def test_names_are_plain(self):
         for path, tree in trees().items():
@@ -204,7 +206,7 @@ class NamesTest(unittest.TestCase):
     def test_only_listed_builtins_are_used(self):
         for path, tree in trees().items():
             for node in ast.walk(tree):
-                if isinstance(node, ast.Name) and node.id in dir(builtins):
+                if isinstance(node, ast.Name) and node.id in PYTHONS_NAMES:
                     self.assertIn(node.id, BUILTINS, (path, node.lineno))
 
     def test_only_listed_and_own_methods_are_called(self):
