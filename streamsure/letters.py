@@ -16,16 +16,18 @@ def plain_letters(letters):
 
 def letters_for(query, letters):
     """Return letters as a tuple, each one a letter of the query's kinds."""
-    kinds = [side.kinds for side in sides_of(query)]
     rows = tuple(letters)
     for number, thing in enumerate(rows):
-        if not _is_letter(thing) or (thing[0] == "event" and not _is_known(kinds, thing[1])):
+        if not is_letter_for(query, thing):
             raise BadLetter(number)
     return rows
 
 
-def _is_known(kinds, event):
-    return any([known.is_event(event) for known in kinds])
+def is_letter_for(query, thing):
+    """Tell whether a thing, whatever it is, is a letter of the query's kinds."""
+    if not _is_letter(thing):
+        return False
+    return thing[0] != "event" or any([side.kinds.is_event(thing[1]) for side in sides_of(query)])
 
 
 def _is_letter(thing):

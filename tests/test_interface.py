@@ -6,7 +6,8 @@ import pathlib
 import unittest
 
 import streamsure
-from streamsure import apart, errors, machines, meaning, queries, sets, waiting
+from streamsure import apart, changes, errors, fallerrors, language, machines, meaning, queries, sets
+from streamsure import tables, waiting
 
 PACKAGE = pathlib.Path(streamsure.__file__).parent
 
@@ -26,6 +27,13 @@ FUNCTIONS = {
         "waiting_for": ["query", "events", "mark"],
     },
     "apart": {"told_apart": ["query", "one", "other"]},
+    "tables": {
+        "is_finite": ["query"], "table_of": ["query", "ahead", "most"], "run_table": ["table", "letters"],
+    },
+    "changes": {
+        "changes": ["query", "letters"], "marked": ["letters", "late"], "least_lateness": ["letters"],
+    },
+    "language": {"read_book": ["text"], "write_book": ["book"]},
 }
 CLASSES = {
     "sets": {},
@@ -46,10 +54,14 @@ CLASSES = {
         "StreamError": (None, {}), "BadQuery": (["word"], {}), "BadLetter": (["number"], {}),
         "TooMany": (["most"], {}), "NotFinite": ([], {}), "BadText": (["line", "word"], {}),
     },
+    "fallerrors": {"BadPlace": (["place"], {}), "BadState": (["word"], {})},
+    "tables": {"Table": (None, {})},
+    "language": {"Book": (["kinds", "queries"], {"form": ["self"]})},
 }
 MODULES = {
-    "apart": apart, "errors": errors, "machines": machines, "meaning": meaning, "queries": queries,
-    "sets": sets, "waiting": waiting,
+    "apart": apart, "changes": changes, "errors": errors, "fallerrors": fallerrors, "language": language,
+    "machines": machines, "meaning": meaning, "queries": queries, "sets": sets, "tables": tables,
+    "waiting": waiting,
 }
 
 
