@@ -12,10 +12,7 @@ from streamsure.worths import states_of_all
 
 def taken_back(query, events, mark, answer):
     """Return an ending behind which an answer stands as often as is certain, None if it does now."""
-    found = _enders(query, sorted(set(events)), mark, answer)
-    if not found:
-        return None
-    return tuple([("event", event) for event in found])
+    return _ending(query, sorted(set(events)), mark, answer) or None
 
 
 def waiting_for(query, events, mark):
@@ -23,10 +20,14 @@ def waiting_for(query, events, mark):
     rows = sorted(set(events))
     found = []
     for answer in sorted(set(meaning(query, rows))):
-        ending = taken_back(query, rows, mark, answer)
-        if ending is not None:
+        ending = _ending(query, rows, mark, answer)
+        if ending:
             found.append((answer, ending))
     return tuple(found)
+
+
+def _ending(query, events, mark, answer):
+    return tuple([("event", event) for event in _enders(query, events, mark, answer)])
 
 
 def _enders(query, events, mark, answer):

@@ -64,6 +64,38 @@ def draw_query(draw, shape=None, with_empty=True):
     return Pairs(first, second, on, mode, draw.randint(0 if mode == "near" else 1, 3), (told, other))
 
 
+def draw_narrow(draw):
+    """A query of finite sets, of windows, sessions or lonely events: its live time is often lifted."""
+    small = ([(0, 0)], [(0, 1)], [(0, 1)])
+    first = Side(KINDS, "a", {field: draw.choice(small) for field in ("k", "v", "w")})
+    by = draw.choice(((), (), ("k",)))
+    shape = draw.choice((Windows, Windows, Sessions, Lonely))
+    if shape is Lonely:
+        second = Side(KINDS, "b", {"k": draw.choice(([(0, 1)], [(0, 0)], [(None, None)]))})
+        return Lonely(first, second, draw.choice(((), (("k", "k"),))), draw.randint(1, 5), ("v",))
+    words = draw.choice(((), ("first",), ("last",), ("first", "last"), ("least",), ("greatest", "last"), ("count",)))
+    worths = [(word,) if word in ("first", "last", "count") else (word, draw.choice("vw")) for word in words]
+    if shape is Sessions:
+        return Sessions(first, by, draw.randint(1, 3), worths)
+    worths += draw.choice(([], [], [("unlike", "v")], [("atleast", 1)], [("atleast", 2)], [("sum", "w")]))
+    length = draw.randint(1, 6)
+    return Windows(first, by, length, draw.choice((length, length, draw.randint(1, length))), worths)
+
+
+def draw_narrow_letters(draw, query, many, top):
+    """Letters most of whose events a query of draw_narrow lets through."""
+    letters = []
+    for _ in range(many):
+        time, number = draw.randint(0, top), draw.choice((0, 0, 1, -1))
+        if draw.random() < 0.25:
+            letters.append(("mark", time))
+        elif isinstance(query, Lonely) and draw.random() < 0.55:
+            letters.append(("event", ("b", time, number, draw.randint(0, 1), 0)))
+        else:
+            letters.append(("event", ("a", time, number, *[draw.choice((0, 0, 1)) for _ in range(3)])))
+    return letters
+
+
 def draw_event(draw, top):
     kind = draw.choice("aaabbc")
     time, number = draw.randint(0, top), draw.choice((0, 0, 0, 1, -1))

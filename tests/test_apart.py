@@ -9,7 +9,7 @@ from streamsure.machines import run, step
 from streamsure.meaning import stream_of
 from streamsure.queries import Blocks, Each, Lonely, Pairs, Sessions, Side, Windows
 from tests import plain
-from tests.draws import KINDS, SHAPES, draw_letters, draw_near, draw_query
+from tests.draws import KINDS, SHAPES, draw_letters, draw_narrow, draw_narrow_letters, draw_near, draw_query
 
 A = Side(KINDS, "a", {})
 B = Side(KINDS, "b", {})
@@ -85,6 +85,20 @@ class DrawnTest(ApartCase):
                 unlike[query.__class__] += 1
                 self.assert_apart(query, letters, near)
         for shape in SHAPES:
+            self.assertGreater(unlike[shape], 60, shape)
+
+    def test_near_beginnings_with_lifted_live_times(self):
+        draw = random.Random(191)
+        unlike = Counter()
+        for _ in range(1200):
+            query = draw_narrow(draw)
+            letters = draw_narrow_letters(draw, query, draw.randint(1, 10), 8)
+            near = list(letters)
+            near.insert(draw.randint(0, len(near)), draw_narrow_letters(draw, query, 1, 8)[0])
+            if run(query, letters)[0] != run(query, near)[0]:
+                unlike[query.__class__] += 1
+                self.assert_apart(query, letters, near)
+        for shape in (Windows, Sessions, Lonely):
             self.assertGreater(unlike[shape], 60, shape)
 
     def test_beginnings_that_have_nothing_to_do_with_each_other(self):

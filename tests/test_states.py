@@ -8,7 +8,8 @@ from collections import Counter
 from streamsure.machines import run, start, step
 from streamsure.queries import Blocks, Each, Kinds, Lonely, Pairs, Sessions, Side, Windows
 from tests import plain
-from tests.draws import KINDS, SHAPES, draw_event, draw_letters, draw_near, draw_query, letters_of
+from tests.draws import KINDS, SHAPES, draw_event, draw_letters, draw_narrow, draw_narrow_letters
+from tests.draws import draw_near, draw_query, letters_of
 
 A = Side(KINDS, "a", {})
 B = Side(KINDS, "b", {})
@@ -133,6 +134,29 @@ class DrawnTest(unittest.TestCase):
             self.assertGreater(lifted[shape], 0, shape)
         for shape in (Each, Blocks, Pairs):
             self.assertEqual(lifted[shape], 0, shape)
+
+    def test_ahead_of_the_live_time_events_matter_for_no_ending(self):
+        draw = random.Random(71)
+        lifted = Counter()
+        for _ in range(2500):
+            query, top = draw_narrow(draw), draw.choice((4, 8))
+            letters = draw_narrow_letters(draw, query, draw.randint(1, 12), top)
+            (state, told), low = run(query, letters), plain.stream(letters)[1]
+            extra = [letter for letter in draw_narrow_letters(draw, query, 12, top)
+                     if letter[0] == "event" and low <= letter[1][1] < state[0]]
+            if not extra:
+                continue
+            lifted[query.__class__] += 1
+            self.assertEqual(run(query, letters + extra)[0], state)
+            for _ in range(3):
+                ending = draw_narrow_letters(draw, query, draw.randint(0, 6), top + 2)
+                stands = plain.meaning(query, plain.stream(letters + ending)[0])
+                with_extra = plain.meaning(query, plain.stream(letters + extra + ending)[0])
+                self.assertEqual(with_extra, stands, (query.form(), letters, extra, ending))
+                rest = behind(query, state, [*ending, END])
+                self.assertEqual(told_sofar(told) + told_sofar(rest), Counter(stands))
+        for shape in (Windows, Sessions, Lonely):
+            self.assertGreater(lifted[shape], 20, shape)
 
     def test_at_the_live_time_some_event_changes_or_tells_something(self):
         draw = random.Random(7)
