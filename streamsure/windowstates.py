@@ -94,29 +94,37 @@ def _live_time(query, table, mark):
     keys = how_many_keys(query.side, query.by)
     if keys is None:
         return mark
+    windows = {}
+    for key, start in table:
+        windows.setdefault(start, []).append(table[key, start])
     time = mark
-    while not _is_live(query, table, keys, time):
-        time = _next_border(query, table, time)
+    while not _is_live(query, windows, keys, time):
+        time = _next_border(query, windows, time)
     return time
 
 
-def _is_live(query, table, keys, time):
-    here = [table[key, start] for key, start in table if is_window_at(query, start, time)]
-    if len(here) < keys * len(window_starts(query, time)):
-        return True
-    open_ones = [states for states in here if states is not None]
-    return any([can_change(query.side, query.worths, states, time) for states in open_ones])
+def _is_live(query, windows, keys, time):
+    for start in window_starts(query, time):
+        row = windows.get(start, [])
+        if len(row) < keys:
+            return True
+        open_ones = [states for states in row if states is not None]
+        if any([can_change(query.side, query.worths, states, time) for states in open_ones]):
+            return True
+    return False
 
 
-def _next_border(query, table, time):
+def _next_border(query, windows, time):
     """Return the next time at which events may begin to change something.
 
     Where a window begins, there may be none yet; where one ends, there is one
     less that an event could change.
     """
     borders = [(time // query.step + 1) * query.step]
-    for states in table.values():
-        for worth, state in zip(query.worths, states or ()):
-            if worth[0] == "last":
-                borders.append(state[TIME])
-    return min([border for border in borders if border > time])
+    for start in window_starts(query, time):
+        for states in windows[start]:
+            for worth, state in zip(query.worths, states or ()):
+                if worth[0] == "last":
+                    borders.append(state[TIME])
+    # no event of this time changes anything, so the last ones here are all later
+    return min(borders)

@@ -132,6 +132,14 @@ class WindowsTest(TakenBackCase):
         self.assert_taken_back(last, late, 4, ((0,), 0, 5, late[0]))
         self.assert_taken_back(first, late, 4, ((0,), 0, 5, late[0]))
 
+    def test_among_many_ids_of_one_time(self):
+        rows = [event(4, number) for number in (-1, 0, 1, 2, 9)]
+        self.assert_taken_back(self.windows(A, ("last",)), rows, 4, ((0,), 0, 5, rows[-1]))
+        self.assert_taken_back(self.windows(A, ("first",)), rows, 4, ((0,), 0, 5, rows[0]))
+        self.assert_taken_back(self.windows(A, ("count",)), rows, 4, ((0,), 0, 5, 5))
+        for many in (6, 7, 9):
+            self.assert_taken_back(self.windows(A, ("atleast", many)), rows, 4, ((0,), 0, 5, 0))
+
     def test_other_keys_stay_as_they_are(self):
         query = self.windows(A, ("count",))
         rows = [event(1, k=1), event(1, k=2)]
