@@ -51,6 +51,8 @@ BARRED_NODES = (
     ast.Global, ast.AsyncFunctionDef, ast.AsyncFor, ast.AsyncWith, ast.Await, ast.Import, ast.Div,
     ast.TryStar,
 )
+ITERATING = {"list", "tuple", "dict", "sorted", "sum", "any", "all", "enumerate", "zip", "min", "max"}
+MODIFYING = {"append", "extend", "pop", "clear", "update", "insert", "remove", "setdefault", "add", "discard"}
 LONG_LINE, LONG_FUNCTION, LONG_FILE = 120, 40, 399
 
 
@@ -95,6 +97,37 @@ def docstrings(tree):
             if isinstance(first, ast.Expr) and isinstance(first.value, ast.Constant):
                 found.append(first.value)
     return found
+
+
+def called_name(node):
+    """The bare name of a function or a method that is called, None for anything else."""
+    if not isinstance(node, ast.Call):
+        return None
+    return node.func.id if isinstance(node.func, ast.Name) else getattr(node.func, "attr", None)
+
+
+def calls_and_parents(tree):
+    found = []
+    for above in ast.walk(tree):
+        for node in ast.iter_child_nodes(above):
+            if isinstance(node, ast.Call):
+                found.append((node, above))
+    return found
+
+
+def modified(loop):
+    """The names of lists and dicts that the rows of a loop change."""
+    names = set()
+    for node in [part for row in loop.body for part in ast.walk(row)]:
+        changed = []
+        if called_name(node) in MODIFYING and isinstance(node.func, ast.Attribute):
+            changed = [node.func.value]
+        elif isinstance(node, (ast.Assign, ast.Delete)):
+            changed = [part.value for part in node.targets if isinstance(part, ast.Subscript)]
+        elif isinstance(node, ast.AugAssign):
+            changed = [getattr(node.target, "value", node.target)]
+        names |= {part.id for part in changed if isinstance(part, ast.Name)}
+    return names
 
 
 class FilesTest(unittest.TestCase):
@@ -232,6 +265,31 @@ class NamesTest(unittest.TestCase):
             for node in ast.walk(tree):
                 if isinstance(node, ast.Attribute) and isinstance(node.ctx, ast.Load):
                     self.assertIn(node.attr, assigned | methods | METHODS, (path, node.lineno))
+
+
+class IteratedTest(unittest.TestCase):
+    def test_views_zips_and_ranges_are_iterated_on_the_spot(self):
+        names = {"zip", "enumerate", "reversed", "range", "items", "keys", "values", "map"}
+        for path, tree in trees().items():
+            for node, above in calls_and_parents(tree):
+                if called_name(node) in names:
+                    is_head = isinstance(above, (ast.For, ast.comprehension)) and above.iter is node
+                    is_taken = isinstance(above, ast.Call) and called_name(above) in ITERATING
+                    self.assertTrue(is_head or is_taken, (path, node.lineno))
+
+    def test_sets_are_not_kept_but_in_a_variable(self):
+        for path, tree in trees().items():
+            for node, above in calls_and_parents(tree):
+                if called_name(node) == "set":
+                    is_taken = isinstance(above, ast.Call) and called_name(above) in ("sorted", "len")
+                    self.assertTrue(is_taken or isinstance(above, (ast.Compare, ast.Assign)), (path, node.lineno))
+
+    def test_what_a_loop_goes_over_is_not_modified_in_it(self):
+        for path, tree in trees().items():
+            for loop in ast.walk(tree):
+                if isinstance(loop, ast.For) and called_name(loop.iter) != "list":
+                    heads = {part.id for part in ast.walk(loop.iter) if isinstance(part, ast.Name)}
+                    self.assertEqual(heads & modified(loop), set(), (path, loop.lineno))
 
 
 class CodeTest(unittest.TestCase):
