@@ -28,7 +28,7 @@ class BookLine:
         self.place += 1
         return True
 
-    def take(self, wanted):
+    def need(self, wanted):
         """Go on behind a word that must stand here."""
         if not self.skip(wanted):
             raise BadText(self.number, self.place)
@@ -82,7 +82,7 @@ def read_query(line, kinds):
 
 def _read_each(line, kinds):
     kind, where = _read_side(line)
-    line.take("tell")
+    line.need("tell")
     told = line.names()
     line.finish()
     return Each(Side(kinds, kind, where), told)
@@ -91,9 +91,9 @@ def _read_each(line, kinds):
 def _read_windows(line, kinds):
     kind, where = _read_side(line)
     by = _read_by(line)
-    line.take("length")
+    line.need("length")
     length = line.integer()
-    line.take("step")
+    line.need("step")
     step = line.integer()
     worths = _read_worths(line)
     return Windows(Side(kinds, kind, where), by, length, step, worths)
@@ -102,7 +102,7 @@ def _read_windows(line, kinds):
 def _read_blocks(line, kinds):
     kind, where = _read_side(line)
     by = _read_by(line)
-    line.take("size")
+    line.need("size")
     size = line.integer()
     worths = _read_worths(line)
     return Blocks(Side(kinds, kind, where), by, size, worths)
@@ -111,7 +111,7 @@ def _read_blocks(line, kinds):
 def _read_sessions(line, kinds):
     kind, where = _read_side(line)
     by = _read_by(line)
-    line.take("gap")
+    line.need("gap")
     gap = line.integer()
     worths = _read_worths(line)
     return Sessions(Side(kinds, kind, where), by, gap, worths)
@@ -119,17 +119,17 @@ def _read_sessions(line, kinds):
 
 def _read_pairs(line, kinds):
     kind, where = _read_side(line)
-    line.take("with")
+    line.need("with")
     other_kind, other_where = _read_side(line)
     by = _read_on(line)
     mode = line.next_word()
     if mode not in MODES:
         raise BadText(line.number, line.place)
-    line.take(mode)
+    line.need(mode)
     reach = line.integer()
-    line.take("tell")
+    line.need("tell")
     told = line.names()
-    line.take("/")
+    line.need("/")
     other_told = line.names()
     line.finish()
     first, second = Side(kinds, kind, where), Side(kinds, other_kind, other_where)
@@ -138,12 +138,12 @@ def _read_pairs(line, kinds):
 
 def _read_lonely(line, kinds):
     kind, where = _read_side(line)
-    line.take("without")
+    line.need("without")
     other_kind, other_where = _read_side(line)
     by = _read_on(line)
-    line.take("for")
+    line.need("for")
     reach = line.integer()
-    line.take("tell")
+    line.need("tell")
     told = line.names()
     line.finish()
     first, second = Side(kinds, kind, where), Side(kinds, other_kind, other_where)
@@ -168,7 +168,7 @@ def _read_set(line):
     pairs = None if word is None else intervals_of(word)
     if pairs is None:
         raise BadText(line.number, line.place)
-    line.take(word)
+    line.need(word)
     return pairs
 
 
@@ -182,7 +182,7 @@ def _read_on(line):
         word = line.next_word()
         while word is not None and names_of_pair(word) is not None:
             found.append(names_of_pair(word))
-            line.take(word)
+            line.need(word)
             word = line.next_word()
     return found
 
@@ -194,7 +194,7 @@ def _read_worths(line):
         word = line.next_word()
         while word is not None and worth_of(word) is not None:
             found.append(worth_of(word))
-            line.take(word)
+            line.need(word)
             word = line.next_word()
     line.finish()
     return found

@@ -29,7 +29,7 @@ def read_book(text):
     kinds = Kinds(fields)
     queries = {}
     for line in lines[many:]:
-        line.take("query")
+        line.need("query")
         name = _new_name(line, queries)
         queries[name] = read_query(line, kinds)
     return Book(kinds, list(queries.items()))

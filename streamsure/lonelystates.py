@@ -48,6 +48,12 @@ def lonely_at_mark(query, state, mark):
     return _settled(query, mark, left, table, events), _answers(told)
 
 
+def lonely_settled(query, state):
+    """Return a state whose live time is as late as its covered times allow."""
+    live, waiting, covers, kept = state
+    return _settled(query, live, waiting, {key: times for key, times in covers}, kept)
+
+
 def lonely_at_end(query, state):
     """Return the answers that an end tells."""
     return _answers([*state[1], *waiting_rows(query, state[3])])

@@ -1,6 +1,6 @@
 """Keys of events, and which events of two sides reach each other."""
 
-from streamsure.events import lets, told_of
+from streamsure.events import told_of
 from streamsure.queries import Each, Lonely, Pairs
 from streamsure.sets import has
 
@@ -24,12 +24,12 @@ def key_of_second(query, event):
 
 
 def key_of_event(query, event):
-    """Return the key of an event that is let through, of a single event the event itself."""
+    """Return the key of an event of a side's kind, of a single event the event itself."""
     if isinstance(query, Each):
         return event
     if not isinstance(query, (Pairs, Lonely)):
         return told_of(query.side, query.by, event)
-    return key_of_first(query, event) if lets(query.first, event) else key_of_second(query, event)
+    return key_of_first(query, event) if event[0] == query.first.kind else key_of_second(query, event)
 
 
 def is_near(query, one, other):

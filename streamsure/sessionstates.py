@@ -29,6 +29,12 @@ def sessions_at_mark(query, state, mark):
     return _settled(query, mark, rows, kept)
 
 
+def sessions_settled(query, state):
+    """Return a state whose live time is as late as its rows allow."""
+    live, rows, kept = state
+    return _settled(query, live, rows, kept)[0]
+
+
 def sessions_at_end(query, state):
     """Return the answers that an end tells."""
     return [session_answer(query, row) for row in state[1]]

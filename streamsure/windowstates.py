@@ -29,6 +29,12 @@ def windows_at_mark(query, state, mark):
     return _settled(query, mark, _table_of(rows), kept)
 
 
+def windows_settled(query, state):
+    """Return a state whose live time is as late as its rows allow."""
+    live, rows, kept = state
+    return _settled(query, live, _table_of(rows), kept)[0]
+
+
 def windows_at_end(query, state):
     """Return the answers that an end tells."""
     return [

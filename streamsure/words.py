@@ -1,12 +1,12 @@
 """The words of books: names, integers, sets, pairs of names and worths, read and written."""
 
 from streamsure.checks import BARE_WORTHS, FIELD_WORTHS, is_name
+from streamsure.figures import integer_by, is_integer_word
 
 LANGUAGE = (
     "kind", "query", "each", "windows", "blocks", "sessions", "pairs", "lonely", "where", "by", "length", "step",
     "worths", "size", "gap", "with", "without", "on", "near", "behind", "for", "tell",
 )
-FIGURES = "0123456789"
 
 
 def is_free_name(word):
@@ -16,12 +16,7 @@ def is_free_name(word):
 
 def integer_of(word):
     """Return the integer that a word writes, None if it writes none."""
-    figures = word[1:] if word.startswith("-") else word
-    if not figures or not all([sign in FIGURES for sign in figures]):
-        return None
-    if figures.startswith("0") and word != "0":
-        return None
-    return int(word)
+    return integer_by(word) if is_integer_word(word) else None
 
 
 def intervals_of(word):

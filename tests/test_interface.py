@@ -6,8 +6,8 @@ import pathlib
 import unittest
 
 import streamsure
-from streamsure import apart, changes, errors, fallerrors, language, machines, meaning, queries, sets
-from streamsure import tables, waiting
+from streamsure import apart, changes, errors, fallerrors, language, lives, machines, meaning, queries, sets
+from streamsure import splitting, statetexts, storing, tables, waiting
 
 PACKAGE = pathlib.Path(streamsure.__file__).parent
 
@@ -34,6 +34,19 @@ FUNCTIONS = {
         "changes": ["query", "letters"], "marked": ["letters", "late"], "least_lateness": ["letters"],
     },
     "language": {"read_book": ["text"], "write_book": ["book"]},
+    "statetexts": {"value_text": ["value"], "value_by": ["text"]},
+    "storing": {
+        "whole_text": ["number", "body"], "whole_of": ["text"], "torn": ["old", "new", "cut", "is_over"],
+        "newest": ["places"], "with_text": ["places", "number", "text"],
+    },
+    "lives": {
+        "actions_from": ["query", "letters", "every", "places"], "plain_answers": ["query", "letters"],
+    },
+    "splitting": {
+        "key_of": ["query", "event"], "split_start": ["query", "split"],
+        "split_step": ["query", "split", "states", "letter"], "split_run": ["query", "split", "letters"],
+        "together": ["told"], "mark_of": ["query", "state"], "moved_key": ["query", "one", "other", "key"],
+    },
 }
 CLASSES = {
     "sets": {},
@@ -57,11 +70,17 @@ CLASSES = {
     "fallerrors": {"BadPlace": (["place"], {}), "BadState": (["word"], {})},
     "tables": {"Table": (None, {})},
     "language": {"Book": (["kinds", "queries"], {"form": ["self"]})},
+    "lives": {
+        "Sink": ([], {"take": ["self", "number", "answer"], "answers": ["self"]}),
+        "World": (["query", "letters", "every"],
+                  {"live": ["self", "many", "cut", "is_over"], "finish": ["self"]}),
+    },
+    "splitting": {"Split": (["many", "told"], {"machine_of": ["self", "key"]})},
 }
 MODULES = {
     "apart": apart, "changes": changes, "errors": errors, "fallerrors": fallerrors, "language": language,
-    "machines": machines, "meaning": meaning, "queries": queries, "sets": sets, "tables": tables,
-    "waiting": waiting,
+    "lives": lives, "machines": machines, "meaning": meaning, "queries": queries, "sets": sets,
+    "splitting": splitting, "statetexts": statetexts, "storing": storing, "tables": tables, "waiting": waiting,
 }
 
 
