@@ -57,6 +57,21 @@ class BookLine:
         self.place += 1
         return number
 
+    def natural(self):
+        """Return the integer from 0 on that must stand here."""
+        number = self.integer()
+        if number < 0:
+            raise BadText(self.number, self.place - 1)
+        return number
+
+    def one_of(self, known):
+        """Return the word that must stand here, one of the known ones."""
+        word = self.next_word()
+        if word not in known:
+            raise BadText(self.number, self.place)
+        self.place += 1
+        return word
+
     def finish(self):
         """Make sure that no word is left."""
         if self.place < len(self.words):
@@ -122,10 +137,7 @@ def _read_pairs(line, kinds):
     line.need("with")
     other_kind, other_where = _read_side(line)
     by = _read_on(line)
-    mode = line.next_word()
-    if mode not in MODES:
-        raise BadText(line.number, line.place)
-    line.need(mode)
+    mode = line.one_of(MODES)
     reach = line.integer()
     line.need("tell")
     told = line.names()

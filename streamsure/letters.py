@@ -9,7 +9,7 @@ def plain_letters(letters):
     """Return letters as a tuple, each one a letter of some kinds."""
     rows = tuple(letters)
     for number, thing in enumerate(rows):
-        if not _is_letter(thing):
+        if not is_plain_letter(thing):
             raise BadLetter(number)
     return rows
 
@@ -25,12 +25,13 @@ def letters_for(query, letters):
 
 def is_letter_for(query, thing):
     """Tell whether a thing, whatever it is, is a letter of the query's kinds."""
-    if not _is_letter(thing):
+    if not is_plain_letter(thing):
         return False
     return thing[0] != "event" or any([side.kinds.is_event(thing[1]) for side in sides_of(query)])
 
 
-def _is_letter(thing):
+def is_plain_letter(thing):
+    """Tell whether a thing, whatever it is, is a letter of some kinds."""
     if not isinstance(thing, tuple) or not thing or not isinstance(thing[0], str):
         return False
     if thing[0] == "end":

@@ -6,8 +6,8 @@ import pathlib
 import unittest
 
 import streamsure
-from streamsure import apart, changes, errors, fallerrors, language, lives, machines, meaning, queries, sets
-from streamsure import splitting, statetexts, storing, tables, waiting
+from streamsure import apart, changes, comparing, differing, errors, fallerrors, language, lives, machines
+from streamsure import meaning, queries, routing, sets, shell, splitting, statetexts, storing, tables, waiting
 
 PACKAGE = pathlib.Path(streamsure.__file__).parent
 
@@ -47,6 +47,14 @@ FUNCTIONS = {
         "split_step": ["query", "split", "states", "letter"], "split_run": ["query", "split", "letters"],
         "together": ["told"], "mark_of": ["query", "state"], "moved_key": ["query", "one", "other", "key"],
     },
+    "routing": {
+        "tree_for": ["kinds", "queries"], "walked": ["tree", "event"], "lot_of": ["tree", "event"],
+        "most_tests": ["node"], "tests_bound": ["kinds", "queries", "kind"],
+        "wrong_tree": ["kinds", "queries", "tree"], "run_many": ["queries", "tree", "letters"],
+    },
+    "comparing": {"form_of": ["query"], "are_same": ["one", "other"]},
+    "differing": {"told_from": ["one", "other"]},
+    "shell": {"read_script": ["text"], "run_script": ["text"]},
 }
 CLASSES = {
     "sets": {},
@@ -76,11 +84,13 @@ CLASSES = {
                   {"live": ["self", "many", "cut", "is_over"], "finish": ["self"]}),
     },
     "splitting": {"Split": (["many", "told"], {"machine_of": ["self", "key"]})},
+    "shell": {"Script": (["book", "commands"], {})},
 }
 MODULES = {
-    "apart": apart, "changes": changes, "errors": errors, "fallerrors": fallerrors, "language": language,
-    "lives": lives, "machines": machines, "meaning": meaning, "queries": queries, "sets": sets,
-    "splitting": splitting, "statetexts": statetexts, "storing": storing, "tables": tables, "waiting": waiting,
+    "apart": apart, "changes": changes, "comparing": comparing, "differing": differing, "errors": errors,
+    "fallerrors": fallerrors, "language": language, "lives": lives, "machines": machines, "meaning": meaning,
+    "queries": queries, "routing": routing, "sets": sets, "shell": shell, "splitting": splitting,
+    "statetexts": statetexts, "storing": storing, "tables": tables, "waiting": waiting,
 }
 
 

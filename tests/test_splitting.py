@@ -203,7 +203,8 @@ class TogetherTest(unittest.TestCase):
     def test_bad_letters(self):
         query = Each(A, [])
         good = [("event", ("a", 1, 0, 1, 2, 3)), ("mark", 2), END]
-        for bad in (("mark", -1), ("mark", True), ("event", ("a", 1, 0)), ("event", ("d", 1, 0)), "end", None, ("end", 1)):
+        for bad in (("mark", -1), ("mark", True), ("event", ("a", 1, 0)), ("event", ("d", 1, 0)), "end", None,
+                    ("end", 1)):
             for place in range(4):
                 with self.assertRaises(BadLetter) as caught:
                     split_run(query, Split(2, {}), [*good[:place], bad, *good[place:], 7])
