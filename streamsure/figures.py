@@ -2,19 +2,30 @@
 
 FIGURES = "0123456789"
 CHUNK = 60
+# of integers that are values, and of the numbers of whole texts
+MOST_FIGURES = 4000
+
+
+def _figures_of(word):
+    return word[1:] if word.startswith("-") else word
 
 
 def is_integer_word(word):
     """Tell whether a word writes an integer without needless signs and figures."""
-    figures = word[1:] if word.startswith("-") else word
+    figures = _figures_of(word)
     if not figures or not all([sign in FIGURES for sign in figures]):
         return False
     return word == "0" or not figures.startswith("0")
 
 
+def is_value_word(word):
+    """Tell whether a word writes, plainly, an integer that has no more figures than a value may have."""
+    return len(_figures_of(word)) <= MOST_FIGURES and is_integer_word(word)
+
+
 def integer_by(word):
     """Return the integer that a word writes plainly."""
-    figures = word[1:] if word.startswith("-") else word
+    figures = _figures_of(word)
     first = len(figures) % CHUNK
     number = int(figures[:first] or "0")
     for begin in range(first, len(figures), CHUNK):

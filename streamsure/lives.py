@@ -4,7 +4,7 @@ from streamsure.checks import is_integer
 from streamsure.fallerrors import BadPlace
 from streamsure.letters import letters_for
 from streamsure.machines import run, start, step
-from streamsure.statetexts import value_by, value_text
+from streamsure.statetexts import state_by, value_text
 from streamsure.storing import check_cut, newest, place_for, torn, whole_text, with_text
 
 SEND = "send"
@@ -35,7 +35,7 @@ def _begin(query, places):
     if stored is None:
         return 0, 0, 0, start(query)
     number, body = stored
-    read, told, state = value_by(body)
+    read, told, state = state_by(body)
     return number + 1, read, told, state
 
 

@@ -2,7 +2,7 @@
 
 from streamsure.checks import LETTERS, is_integer
 from streamsure.fallerrors import BadState
-from streamsure.figures import integer_by, integer_word, is_integer_word
+from streamsure.figures import integer_by, integer_word, is_integer_word, is_value_word
 
 NONE_WORD = "-"
 
@@ -41,10 +41,23 @@ def _joined(words):
 
 def value_by(text):
     """Return the value of a text."""
+    return _read(text, is_value_word)
+
+
+def state_by(text):
+    """Return what a text writes as value_by does, but with integers of any length.
+
+    Numbers in states may outgrow those of values, and a machine that falls must still read its state.
+    """
+    return _read(text, is_integer_word)
+
+
+def _read(text, is_number):
+    """Return what a text writes; is_number tells which words are its integers."""
     if not isinstance(text, str):
         raise BadState(0)
     words = _words_of(text)
-    _check_words(words)
+    _check_words(words, is_number)
     values = _values_of(words)
     if len(values) != 1 or _joined(words) != text:
         raise BadState(len(words))
@@ -57,7 +70,7 @@ def _words_of(text):
     return [word for word in spaced.split(" ") if word]
 
 
-def _check_words(words):
+def _check_words(words, is_number):
     """Make sure that each word can stand in a value, and each closing bracket closes one."""
     depth = 0
     for place, word in enumerate(words):
@@ -65,12 +78,12 @@ def _check_words(words):
             depth -= 1
         elif word == "(":
             depth += 1
-        if depth < 0 or not _is_word(word):
+        if depth < 0 or not _is_word(word, is_number):
             raise BadState(place)
 
 
-def _is_word(word):
-    if word in ("(", ")", NONE_WORD) or is_integer_word(word):
+def _is_word(word, is_number):
+    if word in ("(", ")", NONE_WORD) or is_number(word):
         return True
     return all([sign in LETTERS for sign in word])
 

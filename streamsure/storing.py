@@ -2,9 +2,7 @@
 
 from streamsure.checks import is_integer
 from streamsure.fallerrors import BadPlace
-from streamsure.figures import integer_by, integer_word, is_integer_word
-
-MOST_FIGURES = 4000
+from streamsure.figures import integer_by, integer_word, is_value_word
 
 
 def whole_text(number, body):
@@ -20,13 +18,9 @@ def whole_of(text):
     lines = text.split("\n")
     if len(lines) != 4 or lines[2] != f"end {lines[0]}" or lines[3] != "":
         return None
-    if not _is_number_word(lines[0]):
+    if lines[0].startswith("-") or not is_value_word(lines[0]):
         return None
     return integer_by(lines[0]), lines[1]
-
-
-def _is_number_word(word):
-    return len(word) <= MOST_FIGURES and is_integer_word(word) and not word.startswith("-")
 
 
 def check_cut(text, cut):

@@ -274,6 +274,36 @@ class WorldTest(WorldCase):
             self.assert_finishes(world)
 
 
+class LongNumbersTest(WorldCase):
+    """Numbers in states may have more figures than values may: no point says that this is an error."""
+
+    def assert_falls_well(self, query, letters):
+        for every in (1, 2):
+            for many in range(len(World(query, letters, every).actions) + 1):
+                world = World(query, letters, every)
+                actions = world.actions
+                world.live(many, None, False)
+                self.assert_right(world)
+                stores = [place + 1 for place, row in enumerate(actions[:many]) if row[0] == "store"]
+                self.assertEqual(world.actions, actions[max(stores, default=0):])
+                self.assert_finishes(world)
+
+    def test_events_that_are_kept(self):
+        for number in (10 ** 4000 - 1, 10 ** 4000, -10 ** 4000, 10 ** 5000):
+            letters = letters_of([("a", 1, 0, number), ("a", 2, 0, 7), ("a", 1, 0, number), ("a", 3, 0, -number)])
+            self.assert_falls_well(EACH, letters)
+
+    def test_sums_that_outgrow_their_parts(self):
+        part = 10 ** 4000 - 1
+        letters = [*letters_of([("a", 1, 0, part), ("a", 2, 0, part)]), ("mark", 3), ("mark", 4), ("end",)]
+        self.assert_falls_well(SUMS, letters)
+        self.assertEqual(plain_answers(SUMS, letters), (((), 0, 5, 2 * part),))
+
+    def test_times(self):
+        time = 10 ** 4001
+        self.assert_falls_well(SUMS, [*letters_of([("a", time, 0, 1)]), ("mark", time + 1), ("mark", time + 9)])
+
+
 class LiveErrorsTest(unittest.TestCase):
     def assert_bad(self, world, told, place):
         ahead = (world.places, world.actions, world.sink.answers(), dict(world.sink.kept))

@@ -6,7 +6,7 @@ import unittest
 
 from streamsure.fallerrors import BadState
 from streamsure.machines import run
-from streamsure.statetexts import value_by, value_text
+from streamsure.statetexts import state_by, value_by, value_text
 from tests.draws import SHAPES, draw_letters, draw_query
 
 MANY = 3999
@@ -44,8 +44,29 @@ class ThereAndBackTest(unittest.TestCase):
         self.assert_text(10 ** 60 - 1, "9" * 60)
         self.assert_text(-10 ** 120, "-1" + "0" * 120)
 
-    def test_somewhat_more_figures_are_no_error(self):
-        self.assert_text(GREAT * 10 ** 400, "1" + "0" * (MANY - 2) + "17" + "0" * 400)
+    def test_the_longest_integers(self):
+        self.assert_text(10 ** 4000 - 1, "9" * 4000)
+        self.assert_text(1 - 10 ** 4000, "-" + "9" * 4000)
+        self.assert_text(10 ** 3999, "1" + "0" * 3999)
+        self.assert_text(("a", (-10 ** 3999,), 10 ** 3999), f"(a (-1{'0' * 3999}) 1{'0' * 3999})")
+
+    def test_longer_integers_are_written_nevertheless(self):
+        """No point says that value_text raises an error, so it writes what goes beyond the limit."""
+        figures = "1" + "0" * (MANY - 2) + "17" + "0" * 400
+        self.assertEqual(value_text(GREAT * 10 ** 400), figures)
+        self.assertEqual(value_text((-10 ** 4000, "a")), f"(-1{'0' * 4000} a)")
+
+    def test_words_of_letters_may_be_longer(self):
+        self.assert_text("a" * 5000, "a" * 5000)
+        self.assert_text(("z" * 4001, 1), f"({'z' * 4001} 1)")
+
+    def test_states_are_read_with_integers_of_any_length(self):
+        for value in (10 ** 4000, -10 ** 4000, (1, ("a", -10 ** 5000), (), None), 10 ** 4000 - 1, (), None, "a"):
+            self.assertEqual(state_by(value_text(value)), value)
+        for text, word in (("0" + "9" * 4001, 0), (f"(1 {'9' * 5000}", 3), (f"{'9' * 5000} A", 1), (None, 0)):
+            with self.assertRaises(BadState) as caught:
+                state_by(text)
+            self.assertEqual(caught.exception.word, word)
 
     def test_numbers_around_lengths_of_figures(self):
         draw = random.Random(30)
@@ -107,6 +128,39 @@ class SpoiltTest(unittest.TestCase):
             self.assert_bad(f"(1 {word})", 2)
             self.assert_bad(f"(1 (a {word}) () -)", 4)
             self.assert_bad(f"({word} {word}", 1)
+
+    def test_integers_of_too_many_figures(self):
+        for many in (4001, 4002, 4060, 4300, 4301, 5000, 20000):
+            for figures in ("9" * many, "1" + "0" * (many - 1)):
+                for word in (figures, "-" + figures):
+                    self.assert_bad(word, 0)
+                    self.assert_bad(f"(1 {word})", 2)
+                    self.assert_bad(f"(1 {word}", 2)
+                    self.assert_bad(f"(1 (a {word}) () -)", 4)
+                    self.assert_bad(f"{word} {word}", 0)
+                    self.assert_bad(f"1 2 {word}", 2)
+
+    def test_integers_of_too_many_figures_among_other_wrong_words(self):
+        word = "9" * 4001
+        self.assert_bad(f") {word}", 0)
+        self.assert_bad(f"{word} )", 0)
+        self.assert_bad(f"A {word}", 0)
+        self.assert_bad(f"(a {word} A)", 2)
+        self.assert_bad(f" {word}", 0)
+        self.assert_bad(f"({word}))", 1)
+
+    def test_needless_figures_are_no_matter_of_length(self):
+        self.assert_bad("0" + "9" * 3999, 0)
+        self.assert_bad("0" * 4001, 0)
+        self.assert_bad("-0" + "9" * 3999, 0)
+        self.assert_bad("9" * 3999 + "a", 0)
+
+    def test_as_long_as_may_be_beside_what_is_no_value(self):
+        word = "9" * 4000
+        self.assert_bad(f"({word}", 2)
+        self.assert_bad(f"{word} -{word}", 2)
+        self.assert_bad(f"-{word} ", 1)
+        self.assert_bad(f"{word} A", 1)
 
     def test_the_first_wrong_word_counts(self):
         self.assert_bad("A B", 0)
